@@ -1,4 +1,4 @@
-"""The calls on what's asked: asking, telling it otherwise, yes, no, and taking it back."""
+"""The calls on what's asked: asking, telling it otherwise, yes, no, taking it back, and telling how it stands."""
 
 from justthisdeed.records import MOST_AMOUNT, OPEN, REFUSED, WITHDRAWN, Asked
 from justthisdeed.refusals import (
@@ -97,3 +97,11 @@ def maysay(book, r):
     if r >= len(book.asked):
         return -NO_SUCH
     return may_still_say(book, book.asked[r])
+
+
+def askedis(book, r):
+    if r >= len(book.asked):
+        return [-NO_SUCH]
+    asked = book.asked[r]
+    numbers = [asked.kind, asked.asker, asked.number, asked.amount, asked.told, asked.stage, asked.said]
+    return numbers + [len(asked.uses)] + asked.uses

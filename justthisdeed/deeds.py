@@ -1,13 +1,14 @@
 """The calls that do what's asked, and those that tell what is still missing for it."""
 
 from justthisdeed.asking import may_still_say, too_old
+from justthisdeed.chains import holds, root_of
+from justthisdeed.past import left_today
 from justthisdeed.records import DONE, OPEN, Deed
-from justthisdeed.refusals import NO_MORE, NO_SUCH, NOT_ALLOWED, NOT_HOLDING, NOT_OPEN, TOO_OLD
-from justthisdeed.sets import how_many
-from justthisdeed.standing import holds, root_of
+from justthisdeed.refusals import NO_MORE, NO_SUCH, NOT_ALLOWED, NOT_HOLDING, NOT_OPEN, TOO_OLD, WRONG_VALUE
+from justthisdeed.sets import how_many, is_set
 
 
-# Who said yes is handed in, because can asks what it would be if more had.
+# Who said yes is handed in here and below, because can and ifyes ask what it would be if more had.
 def who_count(book, asked, said):
     people = said
     for g in asked.uses:
@@ -27,17 +28,7 @@ def how_many_lack(book, asked, said):
     return max(0, how_many_must(book, asked) - how_many(who_count(book, asked, said)))
 
 
-def left_today(book, kind):
-    total = 0
-    for deed in book.deeds:
-        asked = book.asked[deed.asked]
-        if asked.kind == kind and deed.day == book.day:
-            total = total + asked.amount
-    # A rule told anew may allow less than was done today already.
-    return max(0, book.rules[kind].daily - total)
-
-
-def refusal_of_deed(book, asked):
+def refusal_of_deed(book, asked, said):
     if asked.stage != OPEN:
         return -NOT_OPEN
     if too_old(book, asked):
@@ -45,7 +36,7 @@ def refusal_of_deed(book, asked):
     for g in asked.uses:
         if not holds(book, g, asked.amount):
             return -NOT_HOLDING
-    if how_many_lack(book, asked, asked.said) > 0:
+    if how_many_lack(book, asked, said) > 0:
         return -NOT_ALLOWED
     if asked.amount > left_today(book, asked.kind):
         return -NO_MORE
@@ -57,15 +48,27 @@ def do(book, r):
     if refusal < 0:
         return refusal
     asked = book.asked[r]
+    # Ahead of the deed: it may draw all that was left of a standing yes, which then holds for it no more.
+    counted = who_count(book, asked, asked.said)
     asked.stage = DONE
-    book.deeds.append(Deed(r, book.day))
+    book.deeds.append(Deed(r, book.day, counted))
     return len(book.deeds)
 
 
 def could(book, r):
     if r >= len(book.asked):
         return -NO_SUCH
-    return refusal_of_deed(book, book.asked[r])
+    asked = book.asked[r]
+    return refusal_of_deed(book, asked, asked.said)
+
+
+def ifyes(book, r, people):
+    if r >= len(book.asked):
+        return -NO_SUCH
+    if not is_set(people, book.people):
+        return -WRONG_VALUE
+    asked = book.asked[r]
+    return refusal_of_deed(book, asked, asked.said | people)
 
 
 def lacks(book, r):

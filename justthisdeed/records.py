@@ -43,11 +43,12 @@ class Standing:
         self.taken_back = False
 
 
-# The number of what was asked is enough beside the day: no call can change that any more.
+# What was asked can't change any more once it's done; who counted could, by rules and standing yeses, so it's kept.
 class Deed:
-    def __init__(self, asked, day):
+    def __init__(self, asked, day, counted):
         self.asked = asked
         self.day = day
+        self.counted = counted
 
 
 # Without people nothing has begun yet.

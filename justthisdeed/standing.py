@@ -1,5 +1,6 @@
-"""What standing yeses stand for, and the calls that give them, hand them on, take them back and use them."""
+"""The calls that give standing yeses, hand them on, take them back and use them."""
 
+from justthisdeed.chains import beneath, is_living
 from justthisdeed.records import MOST_AMOUNT, OPEN, Standing
 from justthisdeed.refusals import (
     ALREADY, MORE_THAN_IT_HAS, NO_MORE, NO_SUCH, NOT_ALLOWED, NOT_HOLDING, NOT_OPEN, WRONG_PERSON, WRONG_VALUE)
@@ -7,51 +8,6 @@ from justthisdeed.sets import has
 
 MOST_STANDING = 10
 MOST_USED = 3
-
-
-def is_living(book, g):
-    for link in book.standing[g].chain:
-        given = book.standing[link]
-        if given.taken_back or book.day > given.till:
-            return False
-    return True
-
-
-def beneath(book, g):
-    return [h for h in range(len(book.standing)) if g in book.standing[h].chain]
-
-
-def root_of(book, g):
-    last = book.standing[g].chain[-1]
-    return book.standing[last].giver
-
-
-def draws_on(book, asked, g):
-    for used in asked.uses:
-        if g in book.standing[used].chain:
-            return True
-    return False
-
-
-# A deed is added once, however many of those beneath g it used.
-def drawn_by(book, g):
-    total = 0
-    for deed in book.deeds:
-        asked = book.asked[deed.asked]
-        if draws_on(book, asked, g):
-            total = total + asked.amount
-    return total
-
-
-def room_of(book, g):
-    if not is_living(book, g):
-        return 0
-    return min([book.standing[link].total - drawn_by(book, link) for link in book.standing[g].chain])
-
-
-def holds(book, g, amount):
-    # An amount of 0 fits into any room, so that it's living is asked for by itself.
-    return is_living(book, g) and amount <= book.standing[g].each and amount <= room_of(book, g)
 
 
 def grant(book, giver, holder, kind, each, total, till):

@@ -9,7 +9,12 @@ CALLS = {
     "begin": (0, 1), "rule": (1, 5), "rerule": (2, 6), "ask": (3, 4), "change": (4, 3), "yes": (5, 4),
     "no": (6, 2), "withdraw": (7, 1), "grant": (8, 6), "hand": (9, 5), "revoke": (10, 1), "use": (11, 2),
     "do": (12, 1), "could": (13, 1), "lacks": (14, 1), "counts": (15, 1), "maysay": (16, 1), "can": (17, 1),
+    "tick": (18, 1), "lives": (19, 1), "room": (20, 1), "root": (21, 1), "under": (22, 1), "chain": (23, 1),
+    "drawn": (24, 1), "left": (25, 1), "most": (26, 2), "sum_of": (27, 3), "ifyes": (28, 2), "log": (29, 1),
+    "done": (30, 0), "asked": (31, 1), "grantis": (32, 1), "ruleis": (33, 1), "today": (34, 0),
 }
+
+SEVERAL = ("under", "chain", "log", "asked", "grantis", "ruleis")
 
 
 def numbers_of(calls):
@@ -24,13 +29,33 @@ def numbers_of(calls):
     return numbers
 
 
+def taken_apart(given):
+    """The numbers of each answer, out of the list that is given back."""
+    rows = []
+    at = 0
+    while at < len(given):
+        behind = at + 1 + given[at]
+        if given[at] < 1 or behind > len(given):
+            raise AssertionError(f"no such answer at {at}: {given}")
+        rows.append(given[at + 1:behind])
+        at = behind
+    return rows
+
+
 def answered(calls):
-    """What each call answered; all of these calls answer one number alone."""
-    numbers = numbers_of(calls)
-    given = answers(numbers)
-    if len(given) != 2 * len(calls) or any(length != 1 for length in given[0::2]):
-        raise AssertionError(f"not one number for each call: {given}")
-    return given[1::2]
+    """What each call answered: one number; of those that tell several a list, if it isn't a refusal."""
+    rows = taken_apart(answers(numbers_of(calls)))
+    if len(rows) != len(calls):
+        raise AssertionError(f"not one answer for each call: {rows}")
+    found = []
+    for (name, *_), row in zip(calls, rows, strict=True):
+        if name in SEVERAL and row[0] >= 0:
+            found.append(row)
+        elif len(row) == 1:
+            found.append(row[0])
+        else:
+            raise AssertionError(f"more than one number for {name}: {row}")
+    return found
 
 
 class Line:
@@ -53,6 +78,16 @@ class Line:
     def all_of(self, name, *rows):
         for told in rows:
             getattr(self, name)(*told)
+        return self
+
+    def each(self, name, *values):
+        """What a call of one number answers for each of these."""
+        return [getattr(self, name)(value) for value in values]
+
+    def to_day(self, day):
+        """Lets days pass up to that one."""
+        while self.today() < day:
+            self.tick(min(30, day - self.today()))
         return self
 
 

@@ -1,4 +1,4 @@
-"""Point 2: ask, change, yes, no, withdraw."""
+"""Point 2: ask, change, yes, no, withdraw, asked."""
 
 import unittest
 
@@ -275,6 +275,100 @@ class Withdraw(unittest.TestCase):
         line.all_of("ask", (0, 0, 7, 5), (0, 0, 8, 5))
         line.withdraw(0)
         self.assertEqual(line.do(1), 1)
+
+
+class AskedIs(unittest.TestCase):
+    """kind, who asks, number, amount, day, stage, who said yes, how many standing yeses, and they."""
+
+    def test_just_asked_for(self):
+        line = a_line()
+        line.rule(15, 1, 0, 9, 5)
+        line.tick(4)
+        line.all_of("ask", (2, 1, BIG, 1000000), (0, 0, 0, 0))
+        self.assertEqual(line.each("asked", 0, 1), [[1, 2, BIG, 1000000, 4, 0, 0, 0], [0, 0, 0, 0, 4, 0, 0, 0]])
+
+    def test_who_said_yes_is_a_set(self):
+        line = a_line(people=8, may=255)
+        line.ask(2, 0, 7, 5)
+        for person, said in ((7, 128), (0, 129), (3, 137)):
+            line.yes(person, 0, 7, 5)
+            self.assertEqual(line.asked(0), [0, 2, 7, 5, 0, 0, said, 0])
+
+    def test_who_said_yes_whether_they_may_still_or_not(self):
+        line = a_line()
+        line.ask(0, 0, 7, 5)
+        line.all_of("yes", (1, 0, 7, 5), (2, 0, 7, 5))
+        line.rerule(0, 0, 1, 0, 1000, 5)
+        self.assertEqual((line.asked(0)[6], line.counts(0)), (6, 0))
+        line.tick(30)
+        self.assertEqual(line.asked(0), [0, 0, 7, 5, 0, 0, 6, 0])
+
+    def test_the_standing_yeses_that_it_uses_whether_they_hold_or_not(self):
+        line = a_line()
+        line.all_of("grant", (1, 0, 0, 4, 50, 9), (2, 0, 0, 5, 50, 9), (3, 0, 0, 5, 50, 9))
+        line.ask(0, 0, 7, 5)
+        for g, uses in ((0, [1, 0]), (1, [2, 0, 1]), (2, [3, 0, 1, 2])):
+            line.use(0, g)
+            self.assertEqual(line.asked(0), [0, 0, 7, 5, 0, 0, 0] + uses)
+        line.revoke(2)
+        self.assertEqual(line.asked(0), [0, 0, 7, 5, 0, 0, 0, 3, 0, 1, 2], "and no root is one who said yes")
+
+    def test_in_the_order_in_which_it_took_to_them(self):
+        line = a_line().all_of("grant", *[(1, 0, 0, 5, 50, 9)] * 4)
+        line.ask(0, 0, 7, 5)
+        line.all_of("use", (0, 3), (0, 0), (0, 2))
+        self.assertEqual(line.asked(0)[7:], [3, 3, 0, 2])
+
+    def test_what_became_of_it(self):
+        line = a_line().all_of("ask", *[(0, 0, 7, 5)] * 4)
+        line.all_of("yes", (1, 1, 7, 5), (2, 2, 7, 5))
+        line.do(1)
+        line.no(3, 2)
+        line.withdraw(3)
+        self.assertEqual([line.asked(r)[5] for r in range(4)], [0, 1, 2, 3])
+        self.assertEqual([line.asked(r)[6] for r in range(4)], [0, 2, 4, 0], "who said yes, said so")
+
+    def test_told_otherwise(self):
+        line = a_line()
+        line.grant(1, 0, 0, 5, 50, 9)
+        line.ask(0, 0, 7, 5)
+        line.use(0, 0)
+        line.yes(1, 0, 7, 5)
+        line.tick(3)
+        line.change(0, 8, 6)
+        self.assertEqual(line.asked(0), [0, 0, 8, 6, 3, 0, 0, 0])
+
+    def test_told_the_same_it_s_told_anew(self):
+        line = a_line()
+        line.ask(0, 0, 7, 5)
+        line.yes(1, 0, 7, 5)
+        line.tick(3)
+        line.change(0, 7, 5)
+        self.assertEqual(line.asked(0), [0, 0, 7, 5, 3, 0, 0, 0])
+
+    def test_what_is_refused_leaves_it(self):
+        line = a_line(may=7)
+        line.ask(0, 0, 7, 5)
+        line.yes(1, 0, 7, 5)
+        before = line.asked(0)
+        line.tick(1)
+        refused = [line.change(0, 7, BIG), line.yes(1, 0, 7, 5), line.yes(2, 0, 7, 6), line.yes(3, 0, 7, 5), line.no(3, 0)]
+        self.assertEqual(refused, [-22, -17, -9, -13, -13])
+        self.assertEqual(line.asked(0), before)
+
+    def test_when_it_isn_t_open_nothing_changes_it(self):
+        for line in ended_lines():
+            before = line.asked(0)
+            line.grant(1, 0, 0, 5, 50, 9)
+            refused = [line.change(0, 8, 6), line.yes(2, 0, 7, 5), line.no(2, 0), line.withdraw(0), line.use(0, 0)]
+            self.assertEqual(refused + [line.do(0)], [-6] * 6)
+            self.assertEqual(line.asked(0), before)
+
+    def test_no_such_thing(self):
+        line = a_line()
+        self.assertEqual(line.asked(0), -2)
+        line.ask(0, 0, 7, 5)
+        self.assertEqual(line.each("asked", 1, 12, BIG), [-2] * 3)
 
 
 if __name__ == "__main__":

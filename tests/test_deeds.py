@@ -1,4 +1,4 @@
-"""Point 4: do, could, counts, lacks, maysay, can."""
+"""Point 4: do, could, ifyes, counts, lacks, maysay, can."""
 
 import unittest
 
@@ -424,6 +424,96 @@ class Could(unittest.TestCase):
         line.ask(0, 0, 7, 5)
         line.yes(1, 0, 7, 5)
         self.assertEqual([line.could(0), line.could(0), line.do(0), line.could(0)], [0, 0, 1, -6])
+
+
+class IfYes(unittest.TestCase):
+    def test_had_those_said_yes_too(self):
+        line = a_line(need=2)
+        line.ask(0, 0, 7, 5)
+        due = {people: 0 if people in (6, 7, 10, 11, 12, 13, 14, 15) else -13 for people in range(16)}
+        self.assertEqual({people: line.ifyes(0, people) for people in range(16)}, due)
+        line.yes(1, 0, 7, 5)
+        due = {people: 0 if people & 12 else -13 for people in range(16)}
+        self.assertEqual({people: line.ifyes(0, people) for people in range(16)}, due)
+
+    def test_none_of_them_is_as_could(self):
+        line = a_line()
+        line.ask(0, 0, 7, 5)
+        self.assertEqual((line.ifyes(0, 0), line.could(0)), (-13, -13))
+        line.yes(1, 0, 7, 5)
+        self.assertEqual((line.ifyes(0, 0), line.could(0)), (0, 0))
+        line.do(0)
+        self.assertEqual((line.ifyes(0, 0), line.could(0)), (-6, -6))
+
+    def test_it_says_nothing_for_anybody(self):
+        line = a_line()
+        line.ask(0, 0, 7, 5)
+        self.assertEqual(line.ifyes(0, 15), 0)
+        self.assertEqual((line.counts(0), line.maysay(0), line.asked(0)[6], line.do(0)), (0, 14, 0, -13))
+        self.assertEqual((line.done(), line.left(0)), (0, 1000))
+
+    def test_those_who_may_not_and_who_asks_don_t_count(self):
+        line = a_line(may=11)
+        line.ask(0, 0, 7, 5)
+        self.assertEqual([line.ifyes(0, people) for people in (1, 4, 5, 2, 8)], [-13, -13, -13, 0, 0])
+
+    def test_one_who_said_yes_already_counts_once(self):
+        line = a_line(need=2)
+        line.ask(0, 0, 7, 5)
+        line.yes(1, 0, 7, 5)
+        self.assertEqual((line.ifyes(0, 2), line.ifyes(0, 6)), (-13, 0))
+
+    def test_a_root_counts_once(self):
+        line = a_line(need=2)
+        line.grant(1, 0, 0, 5, 50, 9)
+        line.ask(0, 0, 7, 5)
+        line.use(0, 0)
+        self.assertEqual((line.ifyes(0, 2), line.ifyes(0, 4)), (-13, 0))
+
+    def test_no_set_of_these_people(self):
+        for people in range(1, 9):
+            line = Line(people)
+            line.rule(2 ** people - 1, 1, 0, 1000, 5)
+            line.ask(0, 0, 7, 5)
+            self.assertEqual([line.ifyes(0, told) for told in (2 ** people, 2 ** people + 1, 256, BIG)], [-22] * 4)
+            self.assertEqual(line.ifyes(0, 2 ** people - 1), -13 if people == 1 else 0)
+
+    def test_no_such_thing(self):
+        line = a_line()
+        self.assertEqual(line.ifyes(0, 0), -2)
+        line.ask(0, 0, 7, 5)
+        self.assertEqual([line.ifyes(r, 15) for r in (1, 12, BIG)], [-2] * 3)
+        self.assertEqual([line.ifyes(1, 16), line.ifyes(BIG, BIG)], [-2, -2], "ahead of -22")
+
+    def test_order(self):
+        line = a_line(need=3, daily=4)
+        line.grant(1, 0, 0, 5, 5, 9)
+        line.ask(0, 0, 7, 5)
+        line.use(0, 0)
+        self.assertEqual([line.ifyes(0, people) for people in (0, 4, 12, 16)], [-13, -13, -28, -22])
+        line.revoke(0)
+        self.assertEqual([line.ifyes(0, people) for people in (0, 15, 16)], [-14, -14, -22], "-14 whoever said yes")
+        line.no(2, 0)
+        self.assertEqual([line.ifyes(0, people) for people in (0, 15, 16)], [-6, -6, -22])
+
+    def test_what_is_not_open(self):
+        line = a_line(need=0).all_of("ask", (0, 0, 7, 5), (0, 0, 7, 5), (0, 0, 7, 5))
+        line.do(0)
+        line.no(1, 1)
+        line.withdraw(2)
+        self.assertEqual([line.ifyes(r, 15) for r in range(3)], [-6] * 3)
+
+    def test_a_kind_of_which_nobody_may_say_yes(self):
+        line = a_line(may=0, free=4).all_of("ask", (0, 0, 7, 5), (0, 0, 7, 4))
+        self.assertEqual([line.ifyes(0, 15), line.ifyes(1, 15), line.ifyes(1, 0)], [-13, 0, 0])
+
+    def test_all_who_may_say_yes_now_as_can_tells(self):
+        for need in range(4):
+            for may in (0, 2, 6, 7, 14, 15):
+                line = a_line(may=may, need=need)
+                line.ask(0, 0, 7, 5)
+                line.yes(1, 0, 7, 5)
+                self.assertEqual(line.ifyes(0, line.maysay(0)), 0 if line.can(0) == 1 else -13)
 
 
 if __name__ == "__main__":

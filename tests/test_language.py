@@ -16,7 +16,11 @@ NODES = {
     "FunctionDef", "arguments", "arg", "ClassDef", "Return", "If", "While", "For", "Break", "Continue", "Pass", "Call",
     "Attribute", "Subscript", "Slice", "Compare", "BoolOp", "UnaryOp", "BinOp", "And", "Or", "Not", "USub", "Invert",
     "Add", "Sub", "Mult", "FloorDiv", "Mod", "Pow", "BitAnd", "BitOr", "BitXor", "LShift", "RShift", "Eq", "NotEq",
-    "Lt", "LtE", "Gt", "GtE", "In", "NotIn", "Is", "IsNot", "IfExp", "ListComp", "comprehension"}
+    "Lt", "LtE", "Gt", "GtE", "In", "NotIn", "Is", "IsNot", "IfExp", "ListComp", "comprehension", "keyword"}
+
+KEYWORDS = {
+    "sorted": {"key", "reverse"}, "min": {"key", "default"}, "max": {"key", "default"}, "sum": {"start"},
+    "enumerate": {"start"}, "zip": {"strict"}}
 
 METHODS = {
     "append", "clear", "copy", "count", "endswith", "extend", "find", "get", "index", "insert", "items", "join", "keys",
@@ -102,6 +106,30 @@ class Language(unittest.TestCase):
                 if isinstance(node, ast.Name):
                     self.assertIn(node.id, known)
                     self.assertNotEqual(node.id[0], "_")
+
+    def test_tops(self):
+        """A docstring, imports, defs, classes, and names that are given whole numbers or tuples of them, once."""
+        for _, text in self.each():
+            tops = []
+            for node in ast.parse(text).body[1:]:
+                if isinstance(node, ast.Assign):
+                    tops.append(node.targets[0].id)
+                    value = node.value
+                    values = value.elts if isinstance(value, ast.Tuple) else [value]
+                    self.assertTrue(all(isinstance(each, ast.Constant) for each in values))
+                else:
+                    self.assertIsInstance(node, (ast.ImportFrom, ast.FunctionDef, ast.ClassDef))
+            self.assertEqual(len(tops), len(set(tops)))
+
+    def test_keywords(self):
+        for _, text in self.each():
+            for node in ast.walk(ast.parse(text)):
+                if isinstance(node, ast.Call) and node.keywords:
+                    self.assertIsInstance(node.func, ast.Name)
+                    self.assertLessEqual({word.arg for word in node.keywords}, KEYWORDS.get(node.func.id, set()))
+                    for word in node.keywords:
+                        if word.arg in ("reverse", "strict"):
+                            self.assertIn(getattr(word.value, "value", None), (True, False))
 
     def test_methods(self):
         python_s_own = {name for kind in (str, int, list, dict, set, bytes, tuple) for name in dir(kind)}

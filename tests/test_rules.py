@@ -1,4 +1,4 @@
-"""Point 1: begin, rule, rerule."""
+"""Point 1: begin, rule, rerule, ruleis. (tick and today are in test_days.)"""
 
 import unittest
 
@@ -54,6 +54,17 @@ class Begin(unittest.TestCase):
         self.assertEqual(line.ask(1, 0, 7, 10), 0)
         self.assertEqual(line.grant(0, 1, 0, 5, 5, 3), 0)
         self.assertEqual(line.do(0), 1)
+
+    def test_again_nothing_is_there(self):
+        line = a_line()
+        line.grant(1, 0, 0, 5, 5, 3)
+        line.ask(0, 0, 7, 5)
+        line.use(0, 0)
+        line.do(0)
+        line.tick(1)
+        line.begin(4)
+        self.assertEqual([line.ruleis(0), line.asked(0), line.grantis(0), line.log(0)], [-2] * 4)
+        self.assertEqual([line.done(), line.today()], [0, 0])
 
     def test_again_more_people(self):
         line = Line(1)
@@ -149,6 +160,38 @@ class Rerule(unittest.TestCase):
         self.assertEqual(line.could(0), -13, "may")
         line.rerule(0, 7, 1, 0, 100, 5)
         self.assertEqual(line.could(0), 0, "who said yes, said so still")
+
+
+class RuleIs(unittest.TestCase):
+    def test_as_told(self):
+        line = Line(4)
+        rules = [[9, 3, 17, 1000, 30], [0, 0, 0, 0, 1], [15, 1, 1000000, 1000000, 2], [6, 2, 5, 4, 3]]
+        line.all_of("rule", *rules)
+        self.assertEqual(line.each("ruleis", 0, 1, 2, 3), rules)
+
+    def test_told_anew_it_s_so_from_now_on(self):
+        line = Line(4).all_of("rule", (9, 3, 17, 1000, 30), (6, 2, 5, 4, 3))
+        line.rerule(0, 1, 2, 3, 4, 5)
+        self.assertEqual(line.each("ruleis", 0, 1), [[1, 2, 3, 4, 5], [6, 2, 5, 4, 3]])
+
+    def test_refused_it_stays(self):
+        line = Line(4).all_of("rule", (9, 3, 17, 1000, 30))
+        self.assertEqual([line.rerule(0, 16, 1, 1, 1, 1), line.rerule(0, 1, 4, 1, 1, 1)], [-22, -22])
+        self.assertEqual([line.rerule(0, 1, 1, 1, 1, 0), line.rerule(1, 1, 1, 1, 1, 1)], [-22, -2])
+        self.assertEqual(line.ruleis(0), [9, 3, 17, 1000, 30])
+
+    def test_days_and_deeds_leave_it(self):
+        line = a_line(people=4, may=15, need=0, free=2, daily=9, lives=5)
+        line.ask(0, 0, 7, 5)
+        line.do(0)
+        line.tick(30)
+        self.assertEqual(line.ruleis(0), [15, 0, 2, 9, 5])
+
+    def test_no_such_kind(self):
+        line = Line(4)
+        self.assertEqual(line.ruleis(0), -2)
+        line.rule(9, 3, 17, 1000, 30)
+        self.assertEqual(line.each("ruleis", 1, 4, BIG), [-2] * 3)
 
 
 if __name__ == "__main__":
